@@ -1,0 +1,1 @@
+"""Lawsleft: the cheapest program that is alike under any laws."""

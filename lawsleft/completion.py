@@ -3,7 +3,7 @@
 from heapq import heappop, heappush
 
 from lawsleft.grounds import below, key_of
-from lawsleft.normals import join_of, led, normal_and_steps
+from lawsleft.normals import join_of, led, normal_and_steps, overlapping
 from lawsleft.paths import sides_of_fact
 
 
@@ -77,7 +77,7 @@ class Making:
         self.shown_by = kept_by + [number]
 
     def overlap(self, one, number, two, other):
-        """Ask of the two worths to which two rules lead the join of their lefts."""
+        """Ask of the two worths to which two rules lead the join of their lefts, unless they surely meet."""
         if not overlapping(one[0], two[0]) or (one[1] is None and two[1] is None):
             return
         if one[1] is None:
@@ -103,11 +103,6 @@ class Making:
         """Return the indexes of the rules, rising by the keys of their lefts."""
         keys = [(key_of(self.kinds, left), index) for index, (left, _) in enumerate(self.standing)]
         return [index for _, index in sorted(keys)]
-
-
-def overlapping(v, w):
-    """Whether two lefts share a kind; rules whose lefts share none meet by themselves."""
-    return any([m > 0 and n > 0 for m, n in zip(v, w)])
 
 
 def turned_about(path):

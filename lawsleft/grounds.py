@@ -93,8 +93,8 @@ def many_states(ground):
 
 
 def is_state(ground, thing):
-    """Whether thing is a state of a ground."""
-    if not is_ground(ground) or not isinstance(thing, tuple) or len(thing) != len(ground[0]):
+    """Whether thing is a state of what surely is a ground."""
+    if not isinstance(thing, tuple) or len(thing) != len(ground[0]):
         return False
     return all(is_number(value) and 0 <= value < size for value, (_, size) in zip(thing, ground[0]))
 

@@ -1,13 +1,13 @@
 """Rows of rules, and the normals to which they lead counts."""
 
-from lawsleft.errors import BadCount, BadRow
+from lawsleft.errors import BadCount, BadRow, Refused
 from lawsleft.facts import are_facts
-from lawsleft.grounds import below, is_count_of, is_ground, key_of, made_ground
+from lawsleft.grounds import below, is_count_of, key_of, made_ground
 
 
 def normal(ground, row, v):
     """Return the worth to which the rules of a row lead a count at last."""
-    made_row(ground, row)
+    ask_row(ground, row)
     if not is_count_of(ground[1], v):
         raise BadCount(v)
     return normal_by(row, v)
@@ -15,15 +15,15 @@ def normal(ground, row, v):
 
 def everything(ground, row):
     """Return the left of the first rule whose right is None, None if there is none."""
-    made_row(ground, row)
+    ask_row(ground, row)
     for left, right in row:
         if right is None:
             return left
     return None
 
 
-def made_row(ground, thing):
-    """Return thing if ground is a ground and thing a row of it, else raise the first error met."""
+def ask_row(ground, thing):
+    """Raise the first error met if ground is no ground, or thing no row of it."""
     made_ground(ground)
     if not isinstance(thing, tuple):
         raise BadRow(-1)
@@ -33,7 +33,6 @@ def made_row(ground, thing):
             raise BadRow(index)
         if index > 0 and key_of(kinds, thing[index - 1][0]) >= key_of(kinds, rule[0]):
             raise BadRow(index)
-    return thing
 
 
 def is_rule_of(kinds, thing):
@@ -48,18 +47,51 @@ def is_rule_of(kinds, thing):
 
 def is_row(ground, thing):
     """Whether ground is a ground and thing a row of it."""
-    if not is_ground(ground):
-        return False
     try:
-        made_row(ground, thing)
-    except BadRow:
+        ask_row(ground, thing)
+    except Refused:
         return False
     return True
 
 
 def normal_by(rules, v):
-    """Return the normal of a worth by such rules."""
-    return normal_and_steps(rules, v)[0]
+    """Return the normal of a worth by such rules.
+
+    Great counts may go to and fro by some rules very often. What the steps since a mark did together
+    is a rule, too: where it fits once more, it is taken as often as it can be. The mark is moved on
+    after ever more steps, so that at last it lies ahead of all that comes round.
+    """
+    together, steps, most_steps = None, 0, 1
+    index = fitting(rules, v)
+    while index is not None:
+        left, right = rules[index]
+        if right is None:
+            return None
+        times = times_at_one_go(left, right, v)
+        v = led(left, right, times, v)
+        together = one_behind_another(together, taken_often(left, right, times))
+        steps += 1
+        if below(together[0], v):
+            v = led(together[0], together[1], times_at_one_go(together[0], together[1], v), v)
+            together, steps, most_steps = None, 0, 1
+        elif steps == most_steps:
+            together, steps, most_steps = None, 0, 2 * most_steps
+        index = fitting(rules, v)
+    return v
+
+
+def taken_often(left, right, times):
+    """Return the rule that leads a count to where this one leads it in so many times."""
+    needed = tuple(taken + max(0, (times - 1) * (taken - put)) for taken, put in zip(left, right))
+    return (needed, led(left, right, times, needed))
+
+
+def one_behind_another(one, two):
+    """Return the rule that does what rule one and then rule two does; one may be None."""
+    if one is None:
+        return two
+    between = join_of(one[1], two[0])
+    return (led(one[1], one[0], 1, between), led(two[0], two[1], 1, between))
 
 
 def normal_and_steps(rules, v):
@@ -127,11 +159,35 @@ def is_reduced(row):
 
 def rules_meet(row):
     """Whether each two rules of a row lead the join of their lefts to one normal."""
-    for index, rule in enumerate(row):
-        for ahead in row[:index]:
-            if not two_meet(row, ahead, rule):
+    for later, rule in enumerate(row):
+        for ahead in range(later):
+            if not meet_by_others(row, ahead, later) and not two_meet(row, row[ahead], rule):
                 return False
     return True
+
+
+def meet_by_others(row, ahead, later):
+    """Whether two rules surely meet if all do of which this is not told.
+
+    So do rules that share no kind: one can be taken behind the other. And so do those between which a rule
+    stands that fits their join too: it comes to one normal there with each of the two, which stand closer to it.
+    """
+    v, w = row[ahead][0], row[later][0]
+    if not overlapping(v, w):
+        return True
+    join = join_of(v, w)
+    for between in range(ahead + 1, later):
+        if below(row[between][0], join):
+            return True
+    return False
+
+
+def overlapping(v, w):
+    """Whether two counts share a kind."""
+    for m, n in zip(v, w):
+        if m > 0 and n > 0:
+            return True
+    return False
 
 
 def two_meet(row, one, two):

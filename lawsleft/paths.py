@@ -118,9 +118,7 @@ def lemmas_right(ground, facts, lemmas):
 
 def derivation_right(ground, facts, row, derivation):
     """Whether derivation tells where each rule of a row comes from."""
-    if not are_facts(ground, facts) or not is_row(ground, row):
-        return False
-    if not isinstance(derivation, tuple) or len(derivation) != 2:
+    if not is_row(ground, row) or not isinstance(derivation, tuple) or len(derivation) != 2:
         return False
     lemmas, numbers = derivation
     if not lemmas_right(ground, facts, lemmas) or not isinstance(numbers, tuple) or len(numbers) != len(row):

@@ -2,7 +2,7 @@
 
 from lawsleft.errors import BadProgram, BadPuts, Refused, TooMany
 from lawsleft.expressions import is_expression, is_test
-from lawsleft.grounds import is_ground, is_number, made_ground
+from lawsleft.grounds import is_number, made_ground
 
 MOST_IN_BODY = 40
 MOST_IN_PROGRAM = 120
@@ -151,7 +151,5 @@ def placed(ground, program, puts):
 
 
 def are_puts(ground, thing):
-    """Whether thing are pairs of an exit and a program each."""
-    if not is_ground(ground) or not has_pairs_form(ground, thing):
-        return False
-    return all([is_program(ground, body) for _, body in thing])
+    """Whether thing are pairs of an exit and a program each, of what surely is a ground."""
+    return has_pairs_form(ground, thing) and all([is_program(ground, body) for _, body in thing])

@@ -4,13 +4,21 @@ import time
 import unittest
 
 from lawsleft.normals import everything, normal, row_right
-from tests.samples import BARE, JUNK, LOGGING, SENDING, Chance, refusal
+from lawsleft.rules import rules
+from tests.samples import BARE, JUNK, LOGGING, SENDING, Chance, book_of, refusal
 
 ONE = SENDING
 THREE = ((), (("x", 2), ("y", 1), ("z", 1)), ("done",))
 ALIKE = ((), (("x", 1), ("y", 1), ("z", 1)), ("done",))
 EVEN = ((), (("a", 1), ("b", 1)), ("done",))
 FLUSHED = (((1, 1), (0, 1)),)
+# Prices of three kinds, and facts whose rules lead great counts to and fro many times.
+TO_AND_FRO = (
+    ((49, 91, 51), (("like", (2, 2, 1), (0, 3, 1)), ("like", (3, 2, 1), (2, 1, 3)), ("like", (1, 1, 1), (2, 1, 0)))),
+    ((5, 3, 5), (("like", (5, 1, 0), (4, 3, 5)), ("like", (0, 1, 4), (1, 4, 1)), ("like", (1, 3, 1), (2, 3, 0)))),
+    ((99, 21, 4), (("like", (0, 4, 5), (1, 4, 0)), ("like", (1, 0, 0), (2, 5, 0)), ("like", (2, 3, 5), (4, 0, 0)))),
+    ((1, 1, 1), (("like", (5, 2, 0), (0, 4, 6)), ("like", (5, 0, 5), (4, 8, 0)), ("like", (6, 0, 7), (6, 7, 1)))),
+)
 
 
 class Normals(unittest.TestCase):
@@ -213,6 +221,85 @@ class RowsRight(unittest.TestCase):
         row_right(THREE, told[0], told[1])
         normal(THREE, told[1], (5, 5, 5))
         self.assertEqual(told, copy)
+
+
+def led_once(rule, v):
+    """Return what a rule that fits makes of a count."""
+    return None if rule[1] is None else tuple(n - taken + put for n, taken, put in zip(v, *rule))
+
+
+def step_by_step(row, v):
+    """Return the normal of a worth, one rule at a time, the last one that fits first."""
+    fit = [rule for rule in row if v is not None and all(taken <= n for taken, n in zip(rule[0], v))]
+    return step_by_step(row, led_once(fit[-1], v)) if fit else v
+
+
+class RowsAsChanceHasThem(unittest.TestCase):
+    def rows(self, many):
+        """Tell rows of few rules, of which some are reduced and some meet."""
+        for seed in range(many):
+            ground = (EVEN, LOGGING, ALIKE, THREE)[seed % 4]
+            chance = Chance(ground, seed)
+            given = chance.facts(1 + seed % 4, 1 + seed % 3, 0.3)
+            if seed % 3:
+                told = list(rules(book_of(ground, given)))
+                del told[1:1 + seed % 2]
+            else:
+                told = [(fact[-1], fact[1] if fact[0] == "like" else None) for fact in given]
+            row = dict(sorted(told, key=lambda rule: chance.key(rule[0])))
+            yield chance, tuple(row.items())
+
+    def test_the_judge_asks_what_the_document_asks(self):
+        told = {True: 0, False: 0}
+        for chance, row in self.rows(1500):
+            below = [(one, two) for one in row for two in row if one != two
+                     and all(m <= n for m, n in zip(one[0], two[0]))]
+            right = not below and all(step_by_step(row, rule[1]) == rule[1] for rule in row)
+            for one in row if right else ():
+                for two in row:
+                    join = tuple(max(m, n) for m, n in zip(one[0], two[0]))
+                    right = right and step_by_step(row, led_once(one, join)) == step_by_step(row, led_once(two, join))
+            self.assertIs(row_right(chance.ground, (), row), right, row)
+            told[right] += 1
+        self.assertGreater(min(told.values()), 300)
+
+    def test_normals_step_by_step(self):
+        for chance, row in self.rows(1500):
+            v = chance.count(12)
+            found = normal(chance.ground, row, v)
+            self.assertEqual(step_by_step(row, found), found)
+            if row_right(chance.ground, (), row):
+                self.assertEqual(found, step_by_step(row, v))
+
+    def test_counts_that_go_to_and_fro(self):
+        steps = 0
+        for prices, given in TO_AND_FRO:
+            ground = ((), tuple(zip("abc", prices)), ("done",))
+            row = rules(book_of(ground, given))
+            for seed in range(12):
+                v = Chance(ground, seed).count((40, 150)[seed % 2])
+                found, worth = normal(ground, row, v), v
+                while worth is not None:
+                    fit = [rule for rule in row if all(taken <= n for taken, n in zip(rule[0], worth))]
+                    if not fit:
+                        break
+                    worth = led_once(fit[seed % len(fit)], worth)
+                    steps += 1
+                self.assertEqual(found, worth, (row, v))
+        self.assertGreater(steps, 10000)
+
+    def test_great_counts_that_go_to_and_fro_quickly(self):
+        since = time.monotonic()
+        row = (((0, 1, 1), (1, 0, 0)), ((1, 0, 1), (0, 1, 0)))
+        for great in (10 ** 7, 10 ** 7 + 1, 10 ** 900):
+            self.assertEqual(normal(ALIKE, row, (1, 0, great)), (1 - great % 2, great % 2, 0))
+        for prices, given in TO_AND_FRO:
+            ground = ((), tuple(zip("abc", prices)), ("done",))
+            row = rules(book_of(ground, given))
+            for v in ((10000, 10000, 10000), (9999, 1, 10000), (1, 10000, 9999), (10000, 9998, 1)):
+                found = normal(ground, row, v)
+                self.assertEqual(normal(ground, row, found), found)
+        self.assertLess(time.monotonic() - since, 20)
 
 
 if __name__ == "__main__":

@@ -126,7 +126,8 @@ class Expressions(Right):
                      ("cell", "d"), ("cell", "send"), ("cell", 0), ("cell",), ("add", ("num", 1)), 1, "c", None, (),
                      ("add", ("num", 1), ("num", 2), ("num", 3)), ("div", ("num", 1), ("num", 1)), ("add", 1, 2),
                      ("add", ("num", 100), ("num", 1)), ("sub", ("num", 1), ("num", 100)),
-                     ("mul", ("cell", "c"), ("cell", "d")), C_IS_0, (None, ("num", 1), ("num", 1))):
+                     ("mul", ("cell", "c"), ("cell", "d")), C_IS_0, (None, ("num", 1), ("num", 1)),
+                     ("sell", "c"), ("", "c"), ("add",), ("mul", ("num", 1), ("num", 1), ("num", 1), ("num", 1))):
             self.bad_alone(("set", "c", told), ("while", ("eq", told, ("num", 1)), ()),
                            ("if", ("less", ("num", 1), told), (), ()))
 
@@ -145,6 +146,7 @@ class Expressions(Right):
         self.bad_alone(("set", "c", deep_number(7)))
         self.bad_alone(("set", "c", ("mul", deep_number(6), ("num", 1))))
         self.granted((("set", "c", ("mul", deep_number(5), ("num", 1))),))
+        self.granted((("set", "c", ("sub", ("num", 1), deep_number(5))),))
         self.bad_alone(("while", ("eq", ("num", 1), deep_number(7)), ()))
 
     def test_depth_of_tests(self):
@@ -154,6 +156,7 @@ class Expressions(Right):
         self.granted((("while", deep_test(6, ("eq", deep_number(6), deep_number(6))), ()),))
         self.bad_alone(("while", deep_test(1, ("eq", deep_number(6), deep_number(7))), ()))
         self.granted((("if", ("and", deep_test(5), deep_test(1)), (), ()),))
+        self.granted((("if", ("or", deep_test(1), deep_test(5)), (), ()),))
         self.bad_alone(("if", ("and", deep_test(1), deep_test(6)), (), ()), ("if", ("or", deep_test(6), NEVER), (), ()))
 
 

@@ -4,11 +4,12 @@ import itertools
 import time
 import unittest
 
-from lawsleft.facts import facts
+from lawsleft.facts import facts, is_book
 from lawsleft.normals import everything, normal, row_right
 from lawsleft.paths import derivation_right
 from lawsleft.rules import derivation, rules
-from tests.samples import BARE, FOREVER, JUNK, LOGGING, SENDING, Chance, book_of, doing, refusal
+from lawsleft.tables import table
+from tests.samples import BARE, FOREVER, JUNK, LOGGING, SENDING, WIDE, Chance, book_of, doing, refusal
 
 FACT = ("like", (0, 1), (1, 1))
 ONE = ((), (("send", 1),), ("done",))
@@ -163,6 +164,49 @@ class RowsAsChanceHasThem(unittest.TestCase):
             self.assertEqual(normal(ground, row, found), found)
             self.assertLessEqual(chance.key(found), chance.key(great))
         self.assertLess(time.monotonic() - since, 60)
+
+
+def standing(part, chance):
+    """Return a program with a part in it, the same one for all parts if chance is the same."""
+    body = chance.body(2) + part + chance.body(2)
+    for _ in range(3):
+        way = chance.random.choice(("if", "else", "while", "first", "pair", "behind"))
+        pairs = tuple((name, chance.body(2)) for name in chance.ground[2][:chance.random.randint(0, 3)])
+        if way in ("if", "else"):
+            other = chance.body(2)
+            body = (("if", chance.test(2)) + ((body, other) if way == "if" else (other, body)),)
+        elif way == "while":
+            body = (("while", chance.test(2), body),)
+        elif way == "first":
+            body = (("catch", body, pairs),)
+        elif way == "pair":
+            body = (("catch", chance.body(2), pairs[1:] + ((chance.ground[2][0], body),)),)
+        else:
+            body = body + chance.body(1)
+    return body
+
+
+class WhatABookMeans(unittest.TestCase):
+    def test_the_sides_of_a_law_are_worth_the_same_wherever_they_stand(self):
+        ends = {"like": 0, "all": 0, "never": 0}
+        for seed in range(400):
+            chance = Chance(WIDE, seed)
+            sides = (chance.body(2), chance.body(2))
+            if not is_book((WIDE, (sides,))):
+                continue
+            row = rules((WIDE, (sides,)))
+            one, two = [table(WIDE, standing(side, Chance(WIDE, seed + 5000))) for side in sides]
+            for v, w in zip(one, two):
+                worths = [end and (normal(WIDE, row, end[0]), end[1:]) for end in (v, w)]
+                if v is None and w is None:
+                    ends["never"] += 1
+                elif v is None or w is None or worths[0][0] is None:
+                    ends["all"] += 1
+                    self.assertEqual([worth[0] for worth in worths if worth], [None] * (2 - (v is None) - (w is None)))
+                else:
+                    ends["like"] += v != w
+                    self.assertEqual(worths[0], worths[1])
+        self.assertGreater(min(ends.values()), 20, ends)
 
 
 class DerivationsOfRows(unittest.TestCase):

@@ -111,7 +111,7 @@ def turned_about(path):
 
 
 def needed_lemmas(many_facts, lemmas, numbers):
-    """Return only the lemmas on which the numbers lean, and these numbers, as they then are."""
+    """Return only the lemmas on which these numbers lean, and all numbers, as they then are, by the old ones."""
     needed = {number: True for number in numbers}
     for number in range(many_facts + len(lemmas) - 1, many_facts - 1, -1):
         if number in needed:
@@ -122,5 +122,10 @@ def needed_lemmas(many_facts, lemmas, numbers):
     for index, (start, goal, path) in enumerate(lemmas):
         if many_facts + index in needed:
             new[many_facts + index] = many_facts + len(kept)
-            kept.append((start, goal, tuple([(new[number], way, times) for number, way, times in path])))
-    return tuple(kept), tuple([new[number] for number in numbers])
+            kept.append((start, goal, renumbered(path, new)))
+    return tuple(kept), new
+
+
+def renumbered(path, new):
+    """Return a path whose steps have new numbers, which are told by the old ones."""
+    return tuple([(new[number], way, times) for number, way, times in path])

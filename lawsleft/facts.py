@@ -17,11 +17,7 @@ def made_book(thing):
 
 def is_book(thing):
     """Whether thing is a book."""
-    try:
-        made_book(thing)
-    except Refused:
-        return False
-    return True
+    return facts_if_book(thing) is not None
 
 
 def facts_of_each(thing):
@@ -91,7 +87,20 @@ def each_once(told):
 
 def facts(book):
     """Return the facts of all laws of a book, each once."""
-    return each_once([fact for told in facts_of_each(book) for fact in told])
+    return facts_of_all(facts_of_each(book))
+
+
+def facts_of_all(found):
+    """Return the facts of all laws, which are told law by law, each once."""
+    return each_once([fact for told in found for fact in told])
+
+
+def facts_if_book(thing):
+    """Return the facts of a book, None for what is no book."""
+    try:
+        return facts(thing)
+    except Refused:
+        return None
 
 
 def are_facts(ground, thing):

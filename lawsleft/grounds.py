@@ -18,6 +18,16 @@ def is_number(thing):
     return isinstance(thing, int) and not isinstance(thing, bool)
 
 
+def is_pair(thing):
+    """Whether thing is a tuple of two."""
+    return isinstance(thing, tuple) and len(thing) == 2
+
+
+def is_place_in(many, thing):
+    """Whether thing is the place of one of so many."""
+    return is_number(thing) and 0 <= thing < many
+
+
 def is_name(thing):
     """Whether thing can name something."""
     if not isinstance(thing, str) or not 1 <= len(thing) <= LONGEST_NAME or thing in RESERVED:

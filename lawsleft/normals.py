@@ -16,6 +16,11 @@ def normal(ground, row, v):
 def everything(ground, row):
     """Return the left of the first rule whose right is None, None if there is none."""
     ask_row(ground, row)
+    return everything_by(row)
+
+
+def everything_by(row):
+    """Return the left of the first rule whose right is None, None if there is none, without a question."""
     for left, right in row:
         if right is None:
             return left
@@ -55,29 +60,48 @@ def is_row(ground, thing):
 
 
 def normal_by(rules, v):
-    """Return the normal of a worth by such rules.
+    """Return the normal of a worth by such rules."""
+    end, _ = normal_and_turns(rules, v)
+    return end
 
+
+def normal_and_turns(rules, v):
+    """Return the normal of a worth, and the turns that lead it there.
+
+    A turn is a pair (steps, times) of pairs (index of a rule, times), and how often they are done on end.
     Great counts may go to and fro by some rules very often. What the steps since a mark did together
     is a rule, too: where it fits once more, it is taken as often as it can be. The mark is moved on
     after ever more steps, so that at last it lies ahead of all that comes round.
     """
-    together, steps, most_steps = None, 0, 1
+    turns, since, together, most_steps = [], [], None, 1
     index = fitting(rules, v)
     while index is not None:
         left, right = rules[index]
-        if right is None:
-            return None
         times = times_at_one_go(left, right, v)
         v = led(left, right, times, v)
+        since.append((index, times))
+        if v is None:
+            break
         together = one_behind_another(together, taken_often(left, right, times))
-        steps += 1
         if below(together[0], v):
-            v = led(together[0], together[1], times_at_one_go(together[0], together[1], v), v)
-            together, steps, most_steps = None, 0, 1
-        elif steps == most_steps:
-            together, steps, most_steps = None, 0, 2 * most_steps
+            more = times_at_one_go(together[0], together[1], v)
+            v = led(together[0], together[1], more, v)
+            turns.append((tuple(since), 1 + more))
+            since, together, most_steps = [], None, 1
+        elif len(since) == most_steps:
+            turns.append((tuple(since), 1))
+            since, together, most_steps = [], None, 2 * most_steps
         index = fitting(rules, v)
-    return v
+    return v, turns + [(tuple(since), 1)]
+
+
+def done_together(rules, steps):
+    """Return the rule that does what steps by such rules do, none of which leads to None."""
+    together = None
+    for index, times in steps:
+        left, right = rules[index]
+        together = one_behind_another(together, taken_often(left, right, times))
+    return together
 
 
 def taken_often(left, right, times):

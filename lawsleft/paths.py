@@ -78,6 +78,22 @@ def leads(sides, start, goal, path):
     return end == goal
 
 
+def entry_leads(sides, v, w, entry):
+    """Whether an entry, a tuple, tells by its paths why two worths are like: v leads to w, or both to None."""
+    if len(entry) == 2:
+        return entry[0] == "like" and v is not None and w is not None and leads(sides, v, w, entry[1])
+    if len(entry) != 3 or entry[0] != "all":
+        return False
+    return leads_to_none(sides, v, entry[1]) and leads_to_none(sides, w, entry[2])
+
+
+def leads_to_none(sides, worth, path):
+    """Whether a path leads a worth to None; for None itself there is but the path of no step."""
+    if worth is None:
+        return path == ()
+    return leads(sides, worth, None, path)
+
+
 def is_worth_of(kinds, thing):
     """Whether thing is None or a count of deeds of these kinds."""
     return thing is None or is_count_of(kinds, thing)

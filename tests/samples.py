@@ -225,3 +225,63 @@ class Chance:
 
     def key(self, v):
         return sum(part * cost for part, (_, cost) in zip(v, self.ground[1])), v
+
+
+def standing(part, chance):
+    """Return a program with a part in it, the same one for all parts if chance is the same."""
+    body = chance.body(2) + part + chance.body(2)
+    for _ in range(3):
+        way = chance.random.choice(("if", "else", "while", "first", "pair", "behind"))
+        pairs = tuple((name, chance.body(2)) for name in chance.ground[2][:chance.random.randint(0, 3)])
+        if way in ("if", "else"):
+            other = chance.body(2)
+            body = (("if", chance.test(2)) + ((body, other) if way == "if" else (other, body)),)
+        elif way == "while":
+            body = (("while", chance.test(2), body),)
+        elif way == "first":
+            body = (("catch", body, pairs),)
+        elif way == "pair":
+            body = (("catch", chance.body(2), pairs[1:] + ((chance.ground[2][0], body),)),)
+        else:
+            body = body + chance.body(1)
+    return body
+
+
+def bent(thing):
+    """Return the things that differ from this one in one part: another number, word or kind of value, or one left out."""
+    if isinstance(thing, tuple):
+        found = [None, 0]
+        for index, part in enumerate(thing):
+            found.append(thing[:index] + thing[index + 1:])
+            found.append(thing[:index] + thing[index:index + 1] + thing[index:])
+            found.extend(thing[:index] + (other,) + thing[index + 1:] for other in bent(part))
+        return found
+    if isinstance(thing, int):
+        return [thing - 1, thing + 1, -thing - 2, bool(thing), None, "1", (), 10 ** 30]
+    if isinstance(thing, str):
+        return [thing + "s", "like" if thing == "all" else "all", None, 1]
+    return [(), 0, "all"]
+
+
+def machine_outcome(ground, code, state):
+    """Return the outcome of a code, done row by row."""
+    way = PlainRun(ground, state)
+    at, met = 0, set()
+    while (at, tuple(way.cells.values())) not in met:
+        met.add((at, tuple(way.cells.values())))
+        row = code[at]
+        at += 1
+        if row[0] == "set":
+            way.cells[row[1]] = way.number(row[2]) % way.sizes[row[1]]
+        elif row[0] == "deed":
+            way.deeds[row[1]] += row[2]
+        elif row[0] == "branch":
+            at = at if way.holds(row[1]) else row[2]
+        elif row[0] == "switch":
+            at = row[2][way.cells[row[1]]]
+        elif row[0] == "jump":
+            at = row[1]
+        else:
+            count = tuple(way.deeds[name] for name, _ in ground[1])
+            return count, number_of_state(ground, tuple(way.cells.values())), ground[2].index(row[1])
+    return None

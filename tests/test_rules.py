@@ -9,7 +9,7 @@ from lawsleft.normals import everything, normal, row_right
 from lawsleft.paths import derivation_right
 from lawsleft.rules import derivation, rules
 from lawsleft.tables import table
-from tests.samples import BARE, FOREVER, JUNK, LOGGING, SENDING, WIDE, Chance, book_of, doing, refusal
+from tests.samples import BARE, FOREVER, JUNK, LOGGING, SENDING, WIDE, Chance, book_of, doing, refusal, standing
 
 FACT = ("like", (0, 1), (1, 1))
 ONE = ((), (("send", 1),), ("done",))
@@ -164,26 +164,6 @@ class RowsAsChanceHasThem(unittest.TestCase):
             self.assertEqual(normal(ground, row, found), found)
             self.assertLessEqual(chance.key(found), chance.key(great))
         self.assertLess(time.monotonic() - since, 60)
-
-
-def standing(part, chance):
-    """Return a program with a part in it, the same one for all parts if chance is the same."""
-    body = chance.body(2) + part + chance.body(2)
-    for _ in range(3):
-        way = chance.random.choice(("if", "else", "while", "first", "pair", "behind"))
-        pairs = tuple((name, chance.body(2)) for name in chance.ground[2][:chance.random.randint(0, 3)])
-        if way in ("if", "else"):
-            other = chance.body(2)
-            body = (("if", chance.test(2)) + ((body, other) if way == "if" else (other, body)),)
-        elif way == "while":
-            body = (("while", chance.test(2), body),)
-        elif way == "first":
-            body = (("catch", body, pairs),)
-        elif way == "pair":
-            body = (("catch", chance.body(2), pairs[1:] + ((chance.ground[2][0], body),)),)
-        else:
-            body = body + chance.body(1)
-    return body
 
 
 class WhatABookMeans(unittest.TestCase):

@@ -23,6 +23,25 @@ INTERFACE = {
         "walked": "ground facts lemmas start path", "path_right": "ground facts lemmas start goal path",
         "lemmas_right": "ground facts lemmas", "derivation_right": "ground facts row derivation",
     },
+    "alikes": {"outcome_worth": "ground row outcome", "alike": "book one two"},
+    "papers": {"why": "book one two"},
+    "kernel": {"yes_right": "book one two paper", "no_right": "book one two paper"},
+    "joins": {
+        "implies": "one two", "same_books": "one two", "parting": "one two", "joined": "one two",
+        "costs": "book sides programs",
+    },
+    "meets": {"meet_row": "one two", "meet_paper": "one two", "meet_right": "one two paper"},
+    "onekind": {"one_kind": "book", "one_meet": "one two"},
+    "cheapest": {
+        "plain_form": "book program", "prices": "ground outcomes", "saved": "book program", "parting_state": "book one two",
+    },
+    "diagrams": {
+        "leaf_at": "ground outcome number", "diagram": "ground outcomes", "walked": "ground diagram number",
+        "nodes": "diagram",
+    },
+    "codes": {
+        "is_code": "ground code", "code_of": "ground diagram", "code": "book program", "plain_code": "ground program",
+    },
 }
 LIBRARY = {
     "heapq": "heappush heappop heapify heapreplace heappushpop", "math": "gcd lcm isqrt comb perm factorial",

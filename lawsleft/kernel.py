@@ -21,9 +21,8 @@ def yes_right(book, one, two, paper):
     if not lemmas_right(ground, given, lemmas):
         return False
     sides = sides_of_all(given, lemmas)
-    may_be_all = any([fact[0] == "all" for fact in given])
     ones, twos = all_outcomes(ground, one), all_outcomes(ground, two)
-    return all([entry_right(sides, may_be_all, v, w, entry) for v, w, entry in zip(ones, twos, entries)])
+    return all([entry_right(sides, v, w, entry) for v, w, entry in zip(ones, twos, entries)])
 
 
 def facts_judged(book, one, two):
@@ -34,14 +33,15 @@ def facts_judged(book, one, two):
     return given
 
 
-def entry_right(sides, may_be_all, one, two, entry):
-    """Whether entry tells why two outcomes are alike; may_be_all is whether some fact is an "all"."""
+def entry_right(sides, one, two, entry):
+    """Whether entry tells why two outcomes are alike, by facts and right lemmas that have these sides."""
     if not isinstance(entry, tuple):
         return False
     if one == two or entry == ():
         return one == two and entry == ()
     if one is None or two is None:
-        return may_be_all and entry_leads(sides, count_of(one), count_of(two), entry)
+        # The path of the other one leads to None, which it can do only if some fact is an "all".
+        return entry_leads(sides, count_of(one), count_of(two), entry)
     if entry[0] == "like" and one[1:] != two[1:]:
         return False
     return entry_leads(sides, one[0], two[0], entry)

@@ -3,10 +3,11 @@
 import itertools
 import time
 import unittest
+import unittest.mock
 
 from lawsleft.facts import facts
 from lawsleft.joins import implies, same_books
-from lawsleft.letters import letter_pairs
+from lawsleft.letters import kept_of, letter_pairs, letter_row, order_of
 from lawsleft.meets import meet_paper, meet_right, meet_row
 from lawsleft.normals import is_reduced, normal, row_right, rules_meet
 from lawsleft.rules import rules
@@ -314,6 +315,21 @@ class BentPapers(unittest.TestCase):
             self.assertIs(meet_right(whole, whole, (letters, right, right)), True)
             self.assertIs(meet_right(whole, whole, (letters, right, ((), ()))), False)
             self.assertIs(meet_right(whole, whole, (letters, ((), right[1] * 2), right)), False)
+
+    def test_each_right_is_less_than_its_left(self):
+        # By another order of words the same pairs have another row, which is reduced, and whose rules meet.
+        def other_order(kinds, word):
+            return sum(word), word
+
+        none = ((), ())
+        for ground in (ONE, LOGGING):
+            with unittest.mock.patch("lawsleft.letters.order_of", other_order):
+                row = letter_row(ground[1], (), ())
+            self.assertIs(meet_right((ground, ()), (ground, ()), (letter_row(ground[1], (), ()), none, none)), True)
+            row = tuple(sorted(row, key=lambda rule: order_of(ground[1], rule[0])))
+            self.assertIs(is_reduced(row) and rules_meet(row), True)
+            self.assertEqual(kept_of(ground[1], row), ())
+            self.assertIs(meet_right((ground, ()), (ground, ()), (row, none, none)), False)
 
     def test_a_row_that_says_more_needs_entries_for_it(self):
         one, two = of_one(("like", (0,), (2,))), of_one(("like", (0,), (3,)))

@@ -2,11 +2,12 @@
 
 
 class Refused(ValueError):
-    """What is refused; `what` tells which part of it."""
+    """What is refused; `what` tells which part of it, and `name` by which class."""
 
     def __init__(self, what):
         ValueError.__init__(self, what)
         self.what = what
+        self.name = self.__class__.__name__
 
 
 class BadGround(Refused):

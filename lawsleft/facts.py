@@ -33,9 +33,14 @@ def facts_of_each(thing):
             raise BadLaw(index)
     found = [facts_of_sides(ground, sides) for sides in laws]
     for index, told in enumerate(found):
-        if any([too_great(fact) for fact in told]):
-            raise TooGreat(index)
+        ask_greatness(told, index)
     return found
+
+
+def ask_greatness(told, index):
+    """Raise TooGreat if one of the facts of the law of this index is too great for a book."""
+    if any([too_great(fact) for fact in told]):
+        raise TooGreat(index)
 
 
 def are_sides(ground, thing):

@@ -14,9 +14,9 @@ def why(book, one, two):
     if ones == twos:
         return ("yes", ((), ((),) * len(ones)))
     proofs = Proofs(ground, given)
-    number = first_unlike(proofs.row, ones, twos)
+    number = first_unlike(proofs.row_made, ones, twos)
     if number is not None:
-        return ("no", (number, proofs.row))
+        return ("no", (number, proofs.row_made))
     entries = [entry_of(proofs, v, w) for v, w in zip(ones, twos)]
     return ("yes", proofs.with_lemmas(entries))
 

@@ -9,13 +9,13 @@ class Proofs:
 
     def __init__(self, ground, given):
         self.making = Making(ground, given)
-        self.row, self.shown_by = self.making.finished()
+        self.row_made, self.shown_by = self.making.finished()
         self.found = {}
 
     def normal_and_path(self, worth):
         """Return the normal of a worth, and a path that leads there."""
         if worth not in self.found:
-            end, turns = normal_and_turns(self.row, worth)
+            end, turns = normal_and_turns(self.row_made, worth)
             path = []
             for steps, times in turns:
                 path.extend(self.path_of_turn(steps, times))
@@ -27,7 +27,7 @@ class Proofs:
         path = tuple([(self.shown_by[index], 1, often) for index, often in steps])
         if times == 1:
             return path
-        left, right = done_together(self.row, steps)
+        left, right = done_together(self.row_made, steps)
         return ((self.making.show(left, right, path), 1, times),)
 
     def entry(self, v, w):

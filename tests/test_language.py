@@ -42,6 +42,29 @@ INTERFACE = {
     "codes": {
         "is_code": "ground code", "code_of": "ground diagram", "code": "book program", "plain_code": "ground program",
     },
+    "machine": {"run_code": "ground code state", "code_table": "ground code", "meter": "ground code"},
+    "optimiser": {
+        "threaded": "code", "reached": "code", "optimised": "book program", "road_right": "book program road",
+    },
+    "groundtexts": {"read_ground": "text", "print_ground": "ground"},
+    "readprograms": {"read_program": "ground text"},
+    "printprograms": {"print_program": "ground program"},
+    "booktexts": {
+        "read_law": "ground text", "print_law": "ground sides", "read_entry": "ground text",
+        "print_entry": "ground word sides",
+    },
+    "codetexts": {"print_code": "ground code"},
+    "desk": {"desk_of": "rows"},
+    "desktexts": {},
+    "deskrows": {},
+}
+METHODS_OF_CLASSES = {
+    ("desk", "Desk"): {
+        "__init__": "ground", "say": "hand word sides", "strike": "hand word", "put": "word program", "drop": "word",
+        "undo": "hand", "redo": "hand", "entries": "", "words": "", "program": "word", "book": "", "rules": "",
+        "alike": "one two", "why": "one two", "code": "word", "cheapest": "word", "costs": "sides", "classes": "",
+        "row": "text", "text": "",
+    },
 }
 LIBRARY = {
     "heapq": "heappush heappop heapify heapreplace heappushpop", "math": "gcd lcm isqrt comb perm factorial",
@@ -127,6 +150,15 @@ class Interface(unittest.TestCase):
                 found = [node for node in tree.body if isinstance(node, ast.FunctionDef) and node.name == function]
                 self.assertEqual(len(found), 1, function)
                 self.assertEqual([argument.arg for argument in found[0].args.args], arguments.split())
+
+    def test_each_method_is_defined_in_its_class_with_its_arguments(self):
+        for (name, word), told in METHODS_OF_CLASSES.items():
+            made = [node for node in trees()[name].body if isinstance(node, ast.ClassDef) and node.name == word]
+            self.assertEqual(len(made), 1)
+            for method, arguments in told.items():
+                found = [node for node in made[0].body if isinstance(node, ast.FunctionDef) and node.name == method]
+                self.assertEqual(len(found), 1, method)
+                self.assertEqual([argument.arg for argument in found[0].args.args], ["self"] + arguments.split())
 
 
 class Files(unittest.TestCase):
@@ -226,6 +258,7 @@ class Language(unittest.TestCase):
     def test_builtins(self):
         for name, tree in trees().items():
             known = bound_at_top(tree) + [word for _, word in imported(tree)] + bound_within(tree)
+            known.extend(node.name for node in nodes_of(tree, ast.ExceptHandler) if node.name)
             for node in nodes_of(tree, ast.Name):
                 if node.id not in known:
                     self.assertIn(node.id, BUILTINS, (name, node.lineno))
@@ -242,6 +275,8 @@ class Language(unittest.TestCase):
         for name, tree in trees().items():
             called = [node.func for node in nodes_of(tree, ast.Call) if isinstance(node.func, ast.Attribute)]
             for node in nodes_of(tree, ast.Attribute):
+                if ast.unparse(node) in ("self.__class__.__name__", "self.__class__"):
+                    continue
                 there = METHODS + methods if node in called else stored
                 self.assertIn(node.attr, there, (name, node.lineno))
 
